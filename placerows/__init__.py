@@ -1,0 +1,1 @@
+"""Two long rows of places, each place free or taken."""
