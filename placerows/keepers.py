@@ -1,10 +1,15 @@
 """The keepers of rows, and the calls that are made of them."""
 
+from placerows.moves import join_places, mirror_places, move_places, turn_places
 from placerows.rooms import take_room
 from placerows.rows import Row
+from placerows.stretches import how_many_stretches, longest_length
 
 REFUSED = -2
 MOST_PLACES = 65536
+# How many places get and put go over at most.
+MOST_BITS = 64
+HIGHEST_RULE = 15
 
 
 class Keeper:
@@ -99,6 +104,90 @@ def answer_free(keeper, numbers):
     return [row.let_go_from(start)]
 
 
+def answer_move(keeper, numbers):
+    row = keeper.row_numbered(numbers[0])
+    start = numbers[1]
+    to = numbers[2]
+    n = numbers[3]
+    if row is None or not row.has_stretch(start, n) or not row.has_stretch(to, n):
+        return [REFUSED]
+    move_places(row, start, to, n)
+    return [0]
+
+
+def answer_turn(keeper, numbers):
+    row = keeper.row_numbered(numbers[0])
+    start = numbers[1]
+    n = numbers[2]
+    k = numbers[3]
+    if row is None or not row.has_stretch(start, n):
+        return [REFUSED]
+    turn_places(row, start, n, k)
+    return [0]
+
+
+def answer_mirror(keeper, numbers):
+    row = keeper.row_numbered(numbers[0])
+    start = numbers[1]
+    n = numbers[2]
+    if row is None or not row.has_stretch(start, n):
+        return [REFUSED]
+    mirror_places(row, start, n)
+    return [0]
+
+
+def answer_join(keeper, numbers):
+    row = keeper.row_numbered(0)
+    other = keeper.row_numbered(1)
+    rule = numbers[0]
+    start = numbers[1]
+    at = numbers[2]
+    n = numbers[3]
+    if row is None or rule < 0 or rule > HIGHEST_RULE:
+        return [REFUSED]
+    if not row.has_stretch(start, n) or not other.has_stretch(at, n):
+        return [REFUSED]
+    join_places(row, other, rule, start, at, n)
+    return [row.taken_in(start, n)]
+
+
+def answer_get(keeper, numbers):
+    row = keeper.row_numbered(numbers[0])
+    start = numbers[1]
+    n = numbers[2]
+    if row is None or not row.has_stretch(start, n) or n > MOST_BITS:
+        return [REFUSED]
+    return [0, row.bits_of(start, n)]
+
+
+def answer_put(keeper, numbers):
+    row = keeper.row_numbered(numbers[0])
+    start = numbers[1]
+    n = numbers[2]
+    x = numbers[3]
+    if row is None or not row.has_stretch(start, n) or n > MOST_BITS:
+        return [REFUSED]
+    held = row.bits_of(start, n)
+    row.put_bits(start, n, x)
+    return [0, held]
+
+
+def answer_longest(keeper, numbers):
+    row = keeper.row_numbered(numbers[0])
+    what = numbers[1]
+    if row is None or what not in (0, 1):
+        return [REFUSED]
+    return [longest_length(row, what), how_many_stretches(row, what)]
+
+
+def answer_tell(keeper, numbers):
+    row = keeper.row_numbered(numbers[0])
+    if row is None:
+        return [REFUSED]
+    told = row.byte_numbers()
+    return [len(told)] + told
+
+
 # Each call by its number: what answers it, and how many numbers it has behind the keeper's.
 ANSWERERS = (
     answer_begin,
@@ -109,8 +198,16 @@ ANSWERERS = (
     answer_nth,
     answer_room,
     answer_free,
+    answer_move,
+    answer_turn,
+    answer_mirror,
+    answer_join,
+    answer_get,
+    answer_put,
+    answer_longest,
+    answer_tell,
 )
-SIZES = (1, 3, 4, 3, 4, 3, 3, 2)
+SIZES = (1, 3, 4, 3, 4, 3, 3, 2, 4, 4, 3, 4, 3, 4, 2, 1)
 
 
 def answers(calls):

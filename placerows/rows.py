@@ -48,6 +48,29 @@ class Row:
         for index, bits in word_parts(start, n):
             self.words[index] = changed(self.words[index], bits, how)
 
+    def bits_of(self, start, n):
+        """What a stretch of at most WIDTH places holds: the number whose bit i is place start + i."""
+        first = start // WIDTH
+        bits = 0
+        for index, part in word_parts(start, n):
+            bits = bits | ((self.words[index] & part) << ((index - first) * WIDTH))
+        return bits >> (start % WIDTH)
+
+    def put_bits(self, start, n, bits):
+        """Make a stretch of at most WIDTH places hold the number's bits; those from n on are left out."""
+        first = start // WIDTH
+        moved = bits << (start % WIDTH)
+        for index, part in word_parts(start, n):
+            kept = self.words[index] & ~part
+            self.words[index] = kept | ((moved >> ((index - first) * WIDTH)) & part)
+
+    def byte_numbers(self):
+        """The row's bytes, as whole numbers: place 8 i + j is bit j of number i."""
+        numbers = []
+        for word in self.words:
+            numbers.extend([(word >> shift) & 255 for shift in range(0, WIDTH, 8)])
+        return numbers[:(self.length + 7) // 8]
+
     def taken_in(self, start, n):
         """How many places of the stretch are taken."""
         return sum([ones(self.words[index] & bits) for index, bits in word_parts(start, n)])

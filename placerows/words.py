@@ -52,6 +52,18 @@ def nth_one(word, k):
     return place
 
 
+def mirrored(bits, n):
+    """The n lowest bits end for end; n is at most WIDTH, and no bit from n on is set."""
+    half = WIDTH
+    lower = FULL
+    while half > 1:
+        half = half // 2
+        # lower was the lower half of each group of 4 times half, and becomes that of each group of 2 times half.
+        lower = lower ^ ((lower << half) & FULL)
+        bits = ((bits >> half) & lower) | ((bits & lower) << half)
+    return bits >> (WIDTH - n)
+
+
 def word_parts(start, n):
     """The stretch cut up by words: (which word, its bits that lie in the stretch), in order."""
     parts = []

@@ -1,5 +1,7 @@
 """The calls once more, place by place, as the document's words say them; slow and plain."""
 
+import itertools
+
 
 class PlainKeeper:
     def __init__(self):
@@ -78,11 +80,71 @@ class PlainKeeper:
             end = len(self.rows[0])
         return self.range(row, start, end - start, 2)
 
+    def move(self, row, start, to, n):
+        if not self.stretch_is_right(row, start, n) or not self.stretch_is_right(row, to, n):
+            return -2
+        held = list(self.rows[row])
+        for i in range(n):
+            self.rows[row][to + i] = held[start + i]
+        return 0
+
+    def turn(self, row, start, n, k):
+        if not self.stretch_is_right(row, start, n):
+            return -2
+        held = list(self.rows[row])
+        for i in range(n):
+            self.rows[row][start + (i + k) % n] = held[start + i]
+        return 0
+
+    def mirror(self, row, start, n):
+        if not self.stretch_is_right(row, start, n):
+            return -2
+        held = list(self.rows[row])
+        for i in range(n):
+            self.rows[row][start + n - 1 - i] = held[start + i]
+        return 0
+
+    def join(self, rule, start, at, n):
+        if not 0 <= rule <= 15 or not self.stretch_is_right(0, start, n) or not self.stretch_is_right(1, at, n):
+            return -2
+        for i in range(n):
+            a = self.rows[0][start + i]
+            b = self.rows[1][at + i]
+            self.rows[0][start + i] = rule // 2 ** (2 * a + b) % 2
+        return self.count(0, start, n)
+
+    def get(self, row, start, n):
+        if not self.stretch_is_right(row, start, n) or n > 64:
+            return -2
+        return [0, sum(2 ** i * self.rows[row][start + i] for i in range(n))]
+
+    def put(self, row, start, n, x):
+        told = self.get(row, start, n)
+        if told != -2:
+            for i in range(n):
+                self.rows[row][start + i] = x // 2 ** i % 2
+        return told
+
+    def longest(self, row, what):
+        if row not in (0, 1) or what not in (0, 1):
+            return -2
+        lengths = [len(list(same)) for held, same in itertools.groupby(self.rows[row]) if held == what]
+        return [max(lengths, default=0), len(lengths)]
+
+    def tell(self, row):
+        if row not in (0, 1):
+            return -2
+        told = [0] * -(-len(self.rows[row]) // 8)
+        for place, held in enumerate(self.rows[row]):
+            told[place // 8] += held * 2 ** (place % 8)
+        return [len(told)] + told
+
 
 def plain_answers(calls):
-    """One number for each of the calls, which are written by name."""
+    """A list of numbers for each of the calls, which are written by name."""
     keepers = [PlainKeeper(), PlainKeeper()]
     told = []
     for name, o, *numbers in calls:
-        told.append(getattr(keepers[o], name)(*numbers))
+        answer = getattr(keepers[o], name)(*numbers)
+        told.append(answer if isinstance(answer, list) else [answer])
     return told

@@ -3,11 +3,11 @@
 import random
 import unittest
 
-from placerows.keepers import answers
-from tests.asking import fill, flat
+from tests.asking import LONG, MOST_X, ask_all, fill, tell_all, woven
 from tests.plain import plain_answers
 
-EDGES = (-2147483648, -65536, -257, -2, -1, 0, 1, 2, 3, 4, 254, 255, 256, 257, 65535, 65536, 65537, 2147483647)
+EDGES = (-2147483648, -65536, -257, -2, -1, 0, 1, 2, 3, 4, 15, 16, 63, 64, 65, 254, 255, 256, 257, 65535, 65536, 65537,
+         2147483647)
 
 
 def any_number(chance, length):
@@ -26,10 +26,16 @@ def small(chance, top):
     return chance.randrange(top)
 
 
+def large(chance, length):
+    """A number from 0 to 2^64 - 1: any one, one about the row, or an edge."""
+    return chance.choice((chance.getrandbits(64), chance.randrange(2 * length + 1), 0, length, MOST_X, 2 ** 63))
+
+
 def any_call(chance, length):
     o = chance.randrange(2)
     row = small(chance, 2)
     start = any_number(chance, length)
+    to = any_number(chance, length)
     n = any_number(chance, length) if chance.randrange(3) == 0 else small(chance, 30)
     return chance.choice((
         ("one", o, row, start, small(chance, 4)),
@@ -40,16 +46,23 @@ def any_call(chance, length):
         ("room", o, row, small(chance, 12), small(chance, 3)),
         ("room", o, row, n, small(chance, 3)),
         ("free", o, row, start),
+        ("move", o, row, start, to, n),
+        ("turn", o, row, start, n, large(chance, length)),
+        ("mirror", o, row, start, n),
+        ("join", o, small(chance, 16), start, to, n),
+        ("get", o, row, start, small(chance, 66)),
+        ("put", o, row, start, small(chance, 66), large(chance, length)),
+        ("longest", o, row, small(chance, 2)),
+        ("tell", o, row),
     ))
 
 
 class AgainstPlainTest(unittest.TestCase):
     def check(self, calls):
         self.assertLessEqual(len(calls), 600)
-        told = answers(flat(calls))
-        self.assertEqual(told[0::2], [1] * len(calls))
+        told = ask_all(*calls)
         plain = plain_answers(calls)
-        for at, answer in enumerate(told[1::2]):
+        for at, answer in enumerate(told):
             self.assertEqual(answer, plain[at], (at, calls[at]))
 
     def test_calls_of_every_kind(self):
@@ -60,7 +73,27 @@ class AgainstPlainTest(unittest.TestCase):
             calls += [any_call(chance, length) for turn in range(400)]
             calls += [("begin", 1, small(chance, 90))]
             calls += [any_call(chance, length) for turn in range(150)]
-            self.check(calls)
+            self.check(calls + tell_all(0, 1))
+
+    def test_calls_of_every_kind_on_rows_with_much_in_them(self):
+        for seed in range(100):
+            chance = random.Random(seed)
+            length = chance.choice((64, 65, 200, 256, 257, 320, 500, 513, 800, 1024))
+            calls = woven(length, seed, 0) + woven(length, seed + 1000, 1)
+            calls += [any_call(chance, length) for turn in range(200)]
+            self.check(calls + tell_all(0, 1))
+
+    def test_stretches_over_the_longest_rows(self):
+        for seed in range(3):
+            chance = random.Random(seed)
+            calls = woven(LONG, seed)
+            for turn in range(5):
+                start, to = chance.randrange(300), chance.randrange(300)
+                n = LONG - 300 - chance.randrange(300)
+                calls += [("move", 0, 0, start, to, n), ("turn", 0, 1, to, n, chance.getrandbits(64)),
+                          ("mirror", 0, turn % 2, start, n), ("join", 0, chance.choice((6, 9)), start, to, n)]
+                calls += [("longest", 0, row, what) for row in (0, 1) for what in (0, 1)]
+            self.check(calls + tell_all(0))
 
     def test_rooms_in_crowded_rows(self):
         for seed in range(300):

@@ -7,12 +7,11 @@ import time
 import unittest
 
 from placerows.keepers import answers
-from tests.asking import flat
+from tests.asking import LONG, MOST_X, apart, flat, tell_all, woven
 from tests.plain import plain_answers
 
 # More than the slowest list takes by far, also on a busy machine.
 SECONDS = 20
-LONG = 65536
 
 
 def spent(calls):
@@ -22,9 +21,14 @@ def spent(calls):
     return time.process_time() - began, told
 
 
-def sparse(told):
-    """The answers' list as it must be where each call answers one number."""
-    return [number for answer in told for number in (1, answer)]
+def together(parts):
+    """The answers' list as it must be where the calls answer these lists of numbers."""
+    return [number for part in parts for number in [len(part)] + part]
+
+
+def alone(told):
+    """Numbers that are answered each alone."""
+    return [[number] for number in told]
 
 
 class InterfaceTest(unittest.TestCase):
@@ -32,6 +36,13 @@ class InterfaceTest(unittest.TestCase):
         calls = [0, 0, 5, 1, 0, 0, 2, 1, 2, 0, 0, 1, 3, 3, 3, 0, 0, 0, 5, 4, 0, 0, 0, 1, 0, 5, 0, 0, 0, 1,
                  6, 0, 0, 1, 0, 7, 0, 0, 1, 0, 1, 65537, 0, 1, 1, 1, 1, 0, 0, 0, 4, 0, 0, 5, 1, 0]
         self.assertEqual(answers(calls), [1, 0, 1, 0, 1, 1, 1, 2, 1, 1, 1, 2, 1, 0, 1, 1, 1, -2, 1, 0, 1, 0, 1, -1])
+
+    def test_a_list_of_the_later_calls_as_it_stands(self):
+        calls = [0, 0, 10, 13, 0, 0, 1, 4, 11, 12, 0, 0, 0, 5, 8, 0, 0, 1, 3, 4, 9, 0, 0, 2, 7, MOST_X,
+                 10, 0, 0, 1, 4, 14, 0, 0, 1, 15, 0, 0, 11, 0, 1, 0, 0, 10, 12, 0, 0, 0, 65, 15, 0, 2, 14, 0, 0, 2,
+                 13, 0, 0, 10, 1, 0, 15, 0, 0]
+        self.assertEqual(answers(calls), [1, 0, 2, 0, 0, 2, 0, 22, 1, 0, 1, 0, 1, 0, 2, 2, 3, 3, 2, 182, 0, 1, 5,
+                                          1, -2, 1, -2, 1, -2, 1, -2, 3, 2, 73, 3])
 
     def test_one_call_alone(self):
         self.assertEqual(answers([0, 1, 7]), [1, 0])
@@ -80,6 +91,14 @@ def many_calls(how_many, length, seed=1):
             ("nth", o, row, bit, n),
             ("room", o, row, 1 + chance.randrange(1 + length // 20), chance.randrange(3)),
             ("free", o, row, start),
+            ("move", o, row, start, chance.randrange(length - n + 1), n),
+            ("turn", o, row, start, n, chance.getrandbits(64)),
+            ("mirror", o, row, start, n),
+            ("join", o, chance.randrange(16), start, chance.randrange(length - n + 1), n),
+            ("get", o, row, start, min(n, 64)),
+            ("put", o, row, start, min(n, 64), chance.getrandbits(64)),
+            ("longest", o, row, bit),
+            ("tell", o, row),
         )))
     return calls
 
@@ -87,35 +106,39 @@ def many_calls(how_many, length, seed=1):
 class LongListTest(unittest.TestCase):
     """Lists of 600 calls on rows of 65536 places; a call has 6 numbers at most, so they have 3600 at most."""
 
-    def check(self, calls, expected=None):
+    def check(self, calls, expected):
         seconds, told = spent(flat(calls))
         self.assertLess(seconds, SECONDS)
-        self.assertEqual(len(told), 2 * len(calls))
-        if expected is not None:
-            self.assertEqual(told, sparse(expected))
+        parts = apart(told, len(calls))
+        self.assertLess(sum(len(part) for part in parts), 1000000)
+        # A list of a million numbers is not shown where it's wrong: that alone takes minutes.
+        self.assertTrue(told == together(expected), [call for at, call in enumerate(calls)
+                                                     if parts[at] != expected[at]][:1])
 
     def test_calls_of_every_kind(self):
-        calls = many_calls(600, LONG)
+        calls = many_calls(596, LONG) + tell_all(0, 1)
         self.check(calls, plain_answers(calls))
 
     def test_each_call_over_the_whole_row(self):
         for call, answer in (
-            (("range", 0, 0, 0, LONG, 1), LONG),
-            (("count", 0, 0, 0, LONG), LONG),
-            (("find", 0, 0, 0, 0, 0), -1),
-            (("find", 0, 0, LONG, 0, 1), -1),
-            (("nth", 0, 0, 1, LONG - 1), LONG - 1),
-            (("room", 0, 0, 1, 1), -1),
-            (("room", 0, 1, LONG + 1, 0), -1),
+            (("range", 0, 0, 0, LONG, 1), [LONG]),
+            (("count", 0, 0, 0, LONG), [LONG]),
+            (("find", 0, 0, 0, 0, 0), [-1]),
+            (("find", 0, 0, LONG, 0, 1), [-1]),
+            (("nth", 0, 0, 1, LONG - 1), [LONG - 1]),
+            (("room", 0, 0, 1, 1), [-1]),
+            (("room", 0, 1, LONG + 1, 0), [-1]),
+            (("longest", 0, 0, 0), [0, 0]),
+            (("longest", 0, 0, 1), [LONG, 1]),
         ):
-            self.check([("begin", 0, LONG), ("range", 0, 0, 0, LONG, 1)] + [call] * 598, [0, 0] + [answer] * 598)
+            self.check([("begin", 0, LONG), ("range", 0, 0, 0, LONG, 1)] + [call] * 598, [[0], [0]] + [answer] * 598)
 
     def test_begin_again_and_again(self):
-        self.check([("begin", 0, LONG)] * 600, [0] * 600)
+        self.check([("begin", 0, LONG)] * 600, alone([0] * 600))
 
     def test_switching_and_freeing_in_turn(self):
         self.check([("begin", 0, LONG)] + [("range", 0, 0, 0, LONG, 3), ("free", 0, 0, 0)] * 299,
-                   [0] + [0, LONG] * 299)
+                   alone([0] + [0, LONG] * 299))
 
     def test_rooms_among_many_stretches(self):
         for way in (0, 1, 2):
@@ -127,4 +150,37 @@ class LongListTest(unittest.TestCase):
     def test_as_many_numbers_as_a_list_may_have(self):
         calls = [("begin", 0, LONG)] + [("range", 0, 0, 0, LONG, 3)] * 2666
         self.assertLessEqual(len(flat(calls)), 16000)
-        self.check(calls, [0] + [0, LONG] * 1333)
+        self.check(calls, alone([0] + [0, LONG] * 1333))
+
+    def test_each_later_call_over_long_rows_without_a_pattern(self):
+        # What is done again and again comes back to what it was, or stays as it is after the first time.
+        ahead = woven(LONG)
+        again = 590 - len(ahead)
+        for call, turns in ((("move", 0, 0, 0, 0, LONG), 1), (("turn", 0, 0, 1, LONG - 1, 13107), 5),
+                            (("mirror", 0, 0, 1, LONG - 1), 2), (("join", 0, 6, 1, 0, LONG - 1), 2),
+                            (("longest", 0, 0, 0), 1), (("longest", 0, 1, 1), 1), (("put", 0, 1, 250, 64, 99), 2),
+                            (("get", 0, 1, 250, 64), 1)):
+            few = ahead + [call] * (2 * turns) + tell_all(0)
+            plain = plain_answers(few)
+            cycle = plain[len(ahead) + turns:len(ahead) + 2 * turns]
+            count = again // turns * turns
+            self.check(ahead + [call] * count + tell_all(0),
+                       plain[:len(ahead) + turns] + cycle * (count // turns - 1) + plain[-2:])
+
+    def test_moves_to_and_fro(self):
+        calls = woven(LONG) + [("move", 0, 0, 0, 1, LONG - 1), ("move", 0, 0, 1, 0, LONG - 1)] * 200
+        first = woven(LONG) + [("move", 0, 0, 0, 1, LONG - 1), ("move", 0, 0, 1, 0, LONG - 1)]
+        plain = plain_answers(first + tell_all(0))
+        self.check(calls + tell_all(0), plain[:len(first)] + [[0]] * 398 + plain[-2:])
+
+    def test_answers_of_just_under_a_million_numbers(self):
+        # 121 rows of 8193 numbers, one of 8168, and 478 calls of one number: 999999 numbers in 600 calls.
+        ahead = woven(LONG)[:101] + [("begin", 1, 65336), ("range", 1, 1, 5, 65331, 1), ("tell", 1, 1)]
+        ahead = [call for call in ahead if call[0] != "put"]
+        calls = ahead + [("tell", 0, 0)] * 121
+        calls += [("mirror", 0, 0, 0, LONG)] * (600 - len(calls))
+        plain = plain_answers(ahead + [("tell", 0, 0)])
+        expected = plain[:-1] + [plain[-1]] * 121
+        expected += [[0]] * (600 - len(expected))
+        self.assertEqual((len(calls), sum(len(part) for part in expected)), (600, 999999))
+        self.check(calls, expected)

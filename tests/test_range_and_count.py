@@ -2,11 +2,7 @@
 
 import unittest
 
-from tests.asking import BEYOND, REFUSED, ask, both
-
-WRONG_STRETCHES = [(start, 1) for start in BEYOND + (6, 7)]
-WRONG_STRETCHES += [(1, n) for n in BEYOND + (6,)]
-WRONG_STRETCHES += [(7, 0), (-1, 0), (0, 7), (-1, 2), (6, 1), (2147483647, 2147483647), (4, -1)]
+from tests.asking import BEYOND, REFUSED, WRONG_STRETCHES, ask, both
 
 
 class RangeTest(unittest.TestCase):
